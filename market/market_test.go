@@ -10,6 +10,7 @@ import (
 	"jobber/market"
 	"jobber/purse"
 	"jobber/rules"
+	"jobber/sample"
 )
 
 func TestP22TheChaptersExample(t *testing.T) {
@@ -39,7 +40,7 @@ func TestP22_1New(t *testing.T) {
 			t.Error("what was handed in is shared", s)
 		}
 	}
-	for i, spoil := range spoils() {
+	for i, spoil := range sample.Spoils() {
 		r := plain()
 		spoil(&r)
 		if m, e := market.New(r); m != nil || e != api.ErrRules {
@@ -51,23 +52,8 @@ func TestP22_1New(t *testing.T) {
 	}
 }
 
-// spoils are changes by which rules may not be.
-func spoils() []func(r *api.Rules) {
-	return []func(r *api.Rules){
-		func(r *api.Rules) { r.Version = 0 },
-		func(r *api.Rules) { r.Ticks = nil },
-		func(r *api.Rules) { r.Lot = 0 },
-		func(r *api.Rules) { r.Band = -1 },
-		func(r *api.Rules) { r.Fees = nil },
-		func(r *api.Rules) { r.Round = 4 },
-		func(r *api.Rules) { r.Priority = 0 },
-		func(r *api.Rules) { r.Self = 5 },
-		func(r *api.Rules) { r.Layout = 3 },
-	}
-}
-
 func TestP22_1Restore(t *testing.T) {
-	for i, s := range states(t) {
+	for i, s := range sample.States() {
 		m, e := market.Restore(s)
 		if e != api.OK || !market.Sound(s) {
 			t.Error(i, int(e))
@@ -83,7 +69,7 @@ func TestP22_1Restore(t *testing.T) {
 func unsound(t *testing.T, why any, change func(s *market.State) bool) {
 	t.Helper()
 	some := false
-	for i, s := range states(t) {
+	for i, s := range sample.States() {
 		if !change(&s) {
 			continue
 		}
@@ -98,7 +84,7 @@ func unsound(t *testing.T, why any, change func(s *market.State) bool) {
 }
 
 func TestP22_1SoundNumberByNumber(t *testing.T) {
-	for i, spoil := range spoils() {
+	for i, spoil := range sample.Spoils() {
 		unsound(t, i, func(s *market.State) bool { spoil(&s.Rules); return true })
 	}
 	for _, p := range []int{0, 3, -1, math.MinInt, math.MaxInt, 1<<32 + 1} {
@@ -108,13 +94,13 @@ func TestP22_1SoundNumberByNumber(t *testing.T) {
 		unsound(t, "last", func(s *market.State) bool { s.Last = n; return true })
 	}
 	for _, n := range []int64{0, 1, api.MaxPrice - 1, api.MaxPrice} {
-		s := states(t)[1]
+		s := sample.States()[1]
 		if s.Last = n; !market.Sound(s) {
 			t.Error("last", n)
 		}
 	}
 	for _, n := range []uint64{0, 1, 2, 1 << 62, math.MaxUint64} {
-		s := states(t)[0]
+		s := sample.States()[0]
 		if s.Next = n; !market.Sound(s) { // no order has a Seq
 			t.Error("next", n)
 		}
@@ -183,7 +169,7 @@ func TestP22_1SoundOfOrders(t *testing.T) {
 }
 
 func TestP22_1SoundOfHoldsWithoutRoom(t *testing.T) {
-	s := states(t)[3]
+	s := sample.States()[3]
 	s.Orders = []api.Order{at(7, buy(1, 7, 1<<31, 1<<31+1)), s.Orders[1]} // more than MaxMoney
 	for _, held := range []int64{s.Till.Purses[7].HeldCash, 0} {
 		if s.Till.Purses[7].HeldCash = held; market.Sound(s) {
@@ -252,7 +238,7 @@ func TestP22_1NoMarket(t *testing.T) {
 }
 
 func TestP22_1OwnMemory(t *testing.T) {
-	for i, s := range states(t) {
+	for i, s := range sample.States() {
 		was := s
 		was.Rules, was.Orders = rules.Copy(s.Rules), slices.Clone(s.Orders)
 		spoil := func(s market.State) {
@@ -286,7 +272,7 @@ func TestP22_1Clone(t *testing.T) {
 		deposit(1, api.Cash, 50), place(api.Limit, buy(90, 2, 12, 3)), place(api.Limit, sell(91, 2, 10, 3)),
 		cancel(0, 0), replace(1, 1, 10, 2), halt(), place(api.Limit, sell(92, 3, 9, 2)), uncross(),
 	}
-	for i, s := range states(t) {
+	for i, s := range sample.States() {
 		m := restored(t, s)
 		c := m.Clone()
 		if !market.Same(c.State(), s) {
@@ -324,7 +310,7 @@ func TestP22_1Same(t *testing.T) {
 		func(s *market.State) { s.Till.Purses[0].HeldStock++ },
 		func(s *market.State) { s.Orders = append(slices.Clone(s.Orders), api.Order{}) },
 	}
-	for i, s := range states(t) {
+	for i, s := range sample.States() {
 		if !market.Same(s, s) {
 			t.Error(i)
 		}
@@ -343,7 +329,7 @@ func TestP22_1Same(t *testing.T) {
 				t.Error(i, j)
 			}
 		}
-		for j, other := range states(t) {
+		for j, other := range sample.States() {
 			if market.Same(s, other) != (i == j) {
 				t.Error(i, j)
 			}

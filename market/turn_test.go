@@ -11,6 +11,7 @@ import (
 	"jobber/order"
 	"jobber/purse"
 	"jobber/rules"
+	"jobber/sample"
 )
 
 // replaced tells that an order has another price and quantity.
@@ -197,25 +198,6 @@ func TestP22_5CallByShareInLots(t *testing.T) {
 	has(t, m, 1, purse.Purse{Cash: 940, Stock: 106, HeldStock: 3, Volume: 120})
 }
 
-// someRules tells rules that chance chooses, small in all but their kinds.
-func someRules(src *rand.Rand) api.Rules {
-	r := api.Rules{
-		Version: 1 + src.Intn(3), Lot: 1 + src.Int63n(3), Round: 1 + src.Intn(3), Priority: 1 + src.Intn(2),
-		Self: 1 + src.Intn(4), Layout: 1 + src.Intn(2), Ticks: []api.Tick{{From: 0, Size: 1}},
-		Fees: []api.Tier{{Maker: src.Int63n(50000), Taker: src.Int63n(api.MaxFee)}},
-	}
-	if src.Intn(2) == 0 {
-		r.Ticks = append(r.Ticks, api.Tick{From: 12, Size: 2})
-	}
-	if src.Intn(2) == 0 {
-		r.Band = 300000
-	}
-	if src.Intn(2) == 0 {
-		r.Fees = append(r.Fees, api.Tier{From: 400, Maker: src.Int63n(api.MaxFee), Taker: src.Int63n(50000)})
-	}
-	return r
-}
-
 // someWorld tells a world that chance chooses: with nothing but what accounts have, or with orders that may cross, and have no whole lots.
 func someWorld(src *rand.Rand, r api.Rules, orders bool) *world {
 	w := fresh(r)
@@ -238,45 +220,14 @@ func someWorld(src *rand.Rand, r api.Rules, orders bool) *world {
 	return w
 }
 
-// someCommand tells a command that chance chooses, most often one that may be done.
-func someCommand(src *rand.Rand, lot int64) api.Command {
-	c := api.Command{Account: src.Intn(4), ID: uint64(src.Intn(25)), Side: 1 + src.Intn(2), Type: 1 + src.Intn(5), Price: 6 + src.Int63n(12), Qty: lot * (1 + src.Int63n(7))}
-	if src.Intn(3) == 0 {
-		c.Type = api.Limit
-	}
-	switch n := src.Intn(100); {
-	case n < 60:
-		c.Kind = api.CmdPlace
-	case n < 78:
-		c.Kind = api.CmdReplace
-	case n < 84:
-		c.Kind = api.CmdCancel
-	case n < 88:
-		c.Kind, c.Asset, c.Qty = api.CmdDeposit+src.Intn(2), 1+src.Intn(2), 1+src.Int63n(100)
-	case n < 91:
-		c.Kind = api.CmdSettle
-	case n < 93:
-		c.Kind = api.CmdHalt
-	case n < 97:
-		c.Kind = api.CmdUncross
-	default: // something wrong
-		c.Kind, c.Account, c.Side, c.Type = src.Intn(10), src.Intn(11)-1, src.Intn(4), src.Intn(7)
-		c.Asset, c.Price, c.Qty = src.Intn(4), src.Int63n(9)-3, src.Int63n(9)-3
-	}
-	if src.Intn(20) == 0 {
-		c.Qty++
-	}
-	return c
-}
-
 func TestP22ByItsWords(t *testing.T) {
 	src := rand.New(rand.NewSource(22))
 	codes, events := map[api.Errno]int{}, map[int]int{}
 	for round := range 1500 {
-		w := someWorld(src, someRules(src), round%2 == 1)
+		w := someWorld(src, sample.SomeRules(src.Intn), round%2 == 1)
 		m := restored(t, w.state())
 		for range 60 {
-			c := someCommand(src, w.rules.Lot)
+			c := sample.SomeCommand(src.Intn, w.rules.Lot)
 			was := w.state()
 			want := w.apply(c)
 			if got := m.Apply(c); !slices.Equal(got, want) {
@@ -313,7 +264,7 @@ func TestP22_6WhatFollows(t *testing.T) {
 	src := rand.New(rand.NewSource(226))
 	full := 0
 	for round := range 150 {
-		r := someRules(src)
+		r := sample.SomeRules(src.Intn)
 		m := made(t, r)
 		if round%2 == 0 { // a long call, in which the book gets full
 			m.Apply(halt())
@@ -323,7 +274,7 @@ func TestP22_6WhatFollows(t *testing.T) {
 			m.Apply(deposit(i, api.Stock, 1+src.Int63n(1<<12)))
 		}
 		for range 300 {
-			c := someCommand(src, r.Lot)
+			c := sample.SomeCommand(src.Intn, r.Lot)
 			c.ID, c.Account = uint64(src.Intn(90)), src.Intn(api.MaxAccounts)
 			if c.Kind == api.CmdPlace && round%2 == 0 {
 				c.ID, c.Type = uint64(src.Intn(300)), api.Limit
@@ -364,7 +315,7 @@ func TestP22_6WhatFollows(t *testing.T) {
 func TestP22_6BothLayoutsTellTheSame(t *testing.T) {
 	src := rand.New(rand.NewSource(227))
 	for round := range 200 {
-		r := someRules(src)
+		r := sample.SomeRules(src.Intn)
 		w := someWorld(src, r, round%2 == 0)
 		r.Layout = api.Ladder
 		w.rules = r
@@ -372,7 +323,7 @@ func TestP22_6BothLayoutsTellTheSame(t *testing.T) {
 		w.rules.Layout = api.Grove
 		b := restored(t, w.state())
 		for range 60 {
-			c := someCommand(src, r.Lot)
+			c := sample.SomeCommand(src.Intn, r.Lot)
 			if !slices.Equal(a.Apply(c), b.Apply(c)) {
 				t.Fatal(c)
 			}
@@ -403,7 +354,7 @@ func TestP22_6NextBeyondItsBound(t *testing.T) {
 func TestP22FitsAreTheRules(t *testing.T) {
 	src := rand.New(rand.NewSource(228))
 	for range 20000 { // the words by which the tests tell what fits are the rules'
-		r, c := someRules(src), someCommand(src, 2)
+		r, c := sample.SomeRules(src.Intn), sample.SomeCommand(src.Intn, 2)
 		last := src.Int63n(20)
 		want := fault.Code(rules.Fits(r, last, c.Side, c.Type, c.Price, c.Qty))
 		if e := fitsByWords(r, last, c.Side, c.Type, c.Price, c.Qty); e != want {

@@ -40,3 +40,29 @@ func Halt() api.Command { return api.Command{Kind: api.CmdHalt} }
 
 // Uncross tells one that ends a call.
 func Uncross() api.Command { return api.Command{Kind: api.CmdUncross} }
+
+// Propose tells one that proposes a rule set.
+func Propose(r api.Rules) api.Command {
+	return api.Command{Kind: api.CmdPropose, Rules: r}
+}
+
+// Ack tells one by which a replica says that it supports a version.
+func Ack(replica, version int) api.Command {
+	return api.Command{Kind: api.CmdAck, Replica: replica, Version: version}
+}
+
+// Shade tells one that has a version tried beside.
+func Shade(version int) api.Command {
+	return api.Command{Kind: api.CmdShade, Version: version}
+}
+
+// Unshade tells one that has none tried beside any more.
+func Unshade() api.Command { return api.Command{Kind: api.CmdUnshade} }
+
+// Activate tells one by which a version is to count from an entry on.
+func Activate(version int, at uint64) api.Command {
+	return api.Command{Kind: api.CmdActivate, Version: version, At: at}
+}
+
+// Rollback tells one that takes the last version back.
+func Rollback() api.Command { return api.Command{Kind: api.CmdRollback} }

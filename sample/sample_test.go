@@ -48,6 +48,7 @@ func TestWhatIsPlainMayBe(t *testing.T) {
 	for _, c := range []api.Command{
 		sample.Deposit(1, api.Cash, 5), sample.Withdraw(1, api.Stock, 5), sample.Place(api.Limit, sample.At(7, sample.Sell(1, 2, 3, 4))),
 		sample.Cancel(1, 2), sample.Replace(1, 2, 3, 4), sample.Settle(1), sample.Halt(), sample.Uncross(),
+		sample.Propose(sample.Rules()), sample.Ack(1, 2), sample.Shade(1), sample.Unshade(), sample.Activate(1, 2), sample.Rollback(),
 	} {
 		if c.Client, c.Req = 1, 1; !command.Sound(c) {
 			t.Error(c)
